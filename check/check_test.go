@@ -8,6 +8,7 @@ import (
 
 	"watersmeet/api"
 	"watersmeet/check"
+	"watersmeet/sample"
 	"watersmeet/tree"
 )
 
@@ -75,21 +76,8 @@ func chain(n, conj int) api.Tree {
 	return t
 }
 
-// dice tells numbers without a pattern, the same ones each time.
-type dice struct{ word uint64 }
-
-func (d *dice) below(n int) int {
-	d.word = d.word*6364136223846793005 + 1442695040888963407
-	return int(d.word >> 33 % uint64(n))
-}
-
-func (d *dice) shuffled(n int) []int {
-	var l []int
-	for i := range n {
-		l = slices.Insert(l, d.below(i+1), i)
-	}
-	return l
-}
+// dice tells trees that may not be, too.
+type dice struct{ *sample.Dice }
 
 // seen tells in order which tables are seen of any tree.
 func seen(t api.Tree) []int {
@@ -105,62 +93,14 @@ func seen(t api.Tree) []int {
 	return l
 }
 
-// column tells a column of one of these tables.
-func (d *dice) column(tables, cols []int) api.Term {
-	i := tables[d.below(len(tables))]
-	return col(i, d.below(cols[i]))
-}
-
-// conjunct tells one that an operator on a and b may have.
-func (d *dice) conjunct(a, b api.Tree, cols []int) api.Pred {
-	left, right := seen(a), seen(b)
-	p := eq(d.column(left, cols), d.column(right, cols))
-	p.Op += d.below(6)
-	any := isNull(d.column(append(left, right...), cols))
-	switch d.below(6) {
-	case 0:
-		return and(p, any)
-	case 1:
-		return or(any, not(p), api.Pred{Kind: api.PredTruth, Truth: api.False})
-	case 2:
-		return and(isNull(d.column(right, cols)), or(not(isNull(d.column(left, cols))), eq(num(3), num(4))))
-	}
-	return p
-}
-
-// on tells a tree of these tables, of which there is one at least.
-func (d *dice) on(tables, cols []int) api.Tree {
-	if len(tables) == 1 {
-		return leaf(tables[0])
-	}
-	at := 1 + d.below(len(tables)-1)
-	t := on(api.Inner+d.below(4), d.on(tables[:at], cols), d.on(tables[at:], cols))
-	for range 1 + d.below(2) {
-		t.Conj = append(t.Conj, d.conjunct(t.Kids[0], t.Kids[1], cols))
-	}
-	t.Hash = d.below(2) == 0
-	return t
-}
-
-// right tells a right query of so many tables at most, of which some may be in no leaf.
-func (d *dice) right(most int) api.Query {
-	q := api.Query{}
-	n := 1 + d.below(most)
-	for range n {
-		q.Cols = append(q.Cols, 1+d.below(4))
-	}
-	q.Root = d.on(d.shuffled(n)[:1+d.below(n)], q.Cols)
-	return q
-}
-
 // some are right queries of all sorts.
 func some() []api.Query {
-	d := &dice{11}
+	d := dice{sample.New(11)}
 	var l []api.Query
 	for range 300 {
-		l = append(l, d.right(7))
+		l = append(l, d.Query(7))
 	}
-	return append(l, api.Query{Cols: cols(64, 4), Root: d.on(d.shuffled(33), cols(64, 4))})
+	return append(l, api.Query{Cols: cols(64, 4), Root: d.Tree(d.Shuffled(33), cols(64, 4))})
 }
 
 // copied tells q in new memory.
@@ -733,34 +673,34 @@ func TestQueryOfTwice(t *testing.T) {
 }
 
 // wild tells any tree.
-func (d *dice) wild(room int) api.Tree {
-	t := api.Tree{Kind: d.below(5), Table: d.below(5) - d.below(2)*d.below(2), Hash: d.below(20) == 0}
-	if d.below(30) == 0 {
-		t.Kind, t.Table = wide[d.below(len(wide))], wide[d.below(len(wide))]
+func (d dice) wild(room int) api.Tree {
+	t := api.Tree{Kind: d.Below(5), Table: d.Below(5) - d.Below(2)*d.Below(2), Hash: d.Below(20) == 0}
+	if d.Below(30) == 0 {
+		t.Kind, t.Table = wide[d.Below(len(wide))], wide[d.Below(len(wide))]
 	}
 	if room == 0 {
 		t.Kind = api.Leaf
 	}
-	if t.Kind == api.Leaf && d.below(20) > 0 {
+	if t.Kind == api.Leaf && d.Below(20) > 0 {
 		return t
 	}
-	if d.below(20) > 0 {
+	if d.Below(20) > 0 {
 		t.Table = 0
 	}
-	for range 2 + d.below(2)*d.below(2)*d.below(2) - d.below(2)*d.below(2)*d.below(2) {
+	for range 2 + d.Below(2)*d.Below(2)*d.Below(2) - d.Below(2)*d.Below(2)*d.Below(2) {
 		t.Kids = append(t.Kids, d.wild(max(room-1, 0)))
 	}
-	for range 1 + d.below(2)*d.below(2) - d.below(2)*d.below(2)*d.below(2) {
-		t.Conj = append(t.Conj, []api.Pred{same(d.below(5), d.below(5)), eq(col(d.below(5), d.below(3)), col(d.below(5), d.below(3))), and(same(0, 1), isNull(col(d.below(5), 0))), {Kind: d.below(8)}}[d.below(4)])
+	for range 1 + d.Below(2)*d.Below(2) - d.Below(2)*d.Below(2)*d.Below(2) {
+		t.Conj = append(t.Conj, []api.Pred{same(d.Below(5), d.Below(5)), eq(col(d.Below(5), d.Below(3)), col(d.Below(5), d.Below(3))), and(same(0, 1), isNull(col(d.Below(5), 0))), {Kind: d.Below(8)}}[d.Below(4)])
 	}
 	return t
 }
 
 func TestQueryBySlowTwin(t *testing.T) {
 	told := map[api.Errno]int{}
-	d := &dice{12}
+	d := dice{sample.New(12)}
 	for n := range 100000 {
-		q := api.Query{Cols: cols(d.below(6), 1+d.below(2)), Root: d.wild(d.below(4))}
+		q := api.Query{Cols: cols(d.Below(6), 1+d.Below(2)), Root: d.wild(d.Below(4))}
 		want := slowQuery(q)
 		told[want]++
 		if got := check.Query(q); got != want {
@@ -870,19 +810,19 @@ func TestDataOfWrongQueries(t *testing.T) {
 
 func TestDataBySlowTwin(t *testing.T) {
 	told := map[api.Errno]int{}
-	d := &dice{13}
+	d := dice{sample.New(13)}
 	for n := range 20000 {
-		q := d.right(3)
+		q := d.Query(3)
 		var data api.Data
-		for i := range len(q.Cols) + d.below(40)/39 {
+		for i := range len(q.Cols) + d.Below(40)/39 {
 			var rows []api.Row
-			for range d.below(4) {
-				r := make(api.Row, q.Cols[min(i, len(q.Cols)-1)]+d.below(40)/39)
+			for range d.Below(4) {
+				r := make(api.Row, q.Cols[min(i, len(q.Cols)-1)]+d.Below(40)/39)
 				for at := range r {
-					r[at] = []api.Value{{}, {N: 5}, {Null: true}}[d.below(3)]
+					r[at] = []api.Value{{}, {N: 5}, {Null: true}}[d.Below(3)]
 				}
-				if d.below(30) == 0 {
-					r[0] = api.Value{Null: true, N: int64(d.below(2))}
+				if d.Below(30) == 0 {
+					r[0] = api.Value{Null: true, N: int64(d.Below(2))}
 				}
 				rows = append(rows, r)
 			}
@@ -921,7 +861,7 @@ func TestWithinRightQueries(t *testing.T) {
 // All of the package
 
 func TestLeavesWhatIsHandedIn(t *testing.T) {
-	d := &dice{14}
+	d := dice{sample.New(14)}
 	for i, q := range append(some(), api.Query{Cols: cols(5, 1), Root: d.wild(3)}, api.Query{Cols: cols(5, 1), Root: d.wild(4)}) {
 		data := make(api.Data, len(q.Cols))
 		for at, n := range q.Cols {

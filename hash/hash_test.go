@@ -70,16 +70,6 @@ func not(p api.Pred) api.Pred {
 // same is that the first columns of the tables 0 and 1 are.
 var same = []api.Pred{eq(col(0, 0), col(1, 0))}
 
-// equal tells whether tuples are as long as each other, with the same rows at the same places; a row that is nil is empty.
-func equal(a, b []api.Row) bool {
-	return slices.EqualFunc(a, b, func(r, s api.Row) bool { return slices.Equal(r, s) })
-}
-
-// equals tells it of lists of tuples.
-func equals(a, b [][]api.Row) bool {
-	return slices.EqualFunc(a, b, equal)
-}
-
 // dice tells numbers without a pattern, the same ones each time.
 type dice struct{ word uint64 }
 

@@ -7,6 +7,7 @@ import (
 	"watersmeet/api"
 	"watersmeet/hash"
 	"watersmeet/nest"
+	"watersmeet/sample"
 )
 
 // P15.2: Join
@@ -41,7 +42,7 @@ func TestJoin(t *testing.T) {
 		{"semi, what is no key holds too", api.Semi, mixed, tuples(l[0])},
 		{"anti, what is no key holds too", api.Anti, mixed, tuples(l[1], l[2], l[3], l[4], l[5])},
 	} {
-		if got := hash.Join(c.kind, c.conj, l, r, 1, 6); !equals(got, c.want) {
+		if got := hash.Join(c.kind, c.conj, l, r, 1, 6); !sample.SameLists(got, c.want) {
 			t.Errorf("%s: %v", c.name, got)
 		}
 	}
@@ -56,7 +57,7 @@ func TestJoinWithoutKeys(t *testing.T) {
 		{cmp(api.Ge, col(0, 0), col(1, 0))}, {eq(col(0, 0), number(1))}, {{Kind: api.PredOr, Parts: []api.Pred{same[0], {Kind: api.PredNull, A: col(0, 0)}}}},
 	} {
 		for _, kind := range kinds {
-			if got, want := hash.Join(kind, conj, l, r, 1, 2), nest.Join(kind, conj, l, r); !equals(got, want) {
+			if got, want := hash.Join(kind, conj, l, r, 1, 2), nest.Join(kind, conj, l, r); !sample.SameLists(got, want) {
 				t.Errorf("kind %d, %v: %v, not %v", kind, conj, got, want)
 			}
 		}
@@ -82,7 +83,7 @@ func TestJoinOfNothing(t *testing.T) {
 				if kind == api.Left || kind == api.Anti {
 					want = one
 				}
-				if got := hash.Join(kind, conj, one, none, 1, 2); !equals(got, want) {
+				if got := hash.Join(kind, conj, one, none, 1, 2); !sample.SameLists(got, want) {
 					t.Errorf("kind %d, nothing on the right: %v", kind, got)
 				}
 			}
@@ -100,7 +101,7 @@ func wide(t []api.Row, table int, row api.Row) []api.Row {
 // agree tells whether Join makes what 14's Join makes, and how many tuples it makes.
 func agree(t *testing.T, kind int, conj []api.Pred, l, r [][]api.Row, left, right uint64) int {
 	got, want := hash.Join(kind, conj, l, r, left, right), nest.Join(kind, conj, l, r)
-	if !equals(got, want) {
+	if !sample.SameLists(got, want) {
 		t.Errorf("Join(%d, %v, %v, %v, %d, %d) is %v, not %v", kind, conj, l, r, left, right, got, want)
 	}
 	return len(got)
@@ -195,7 +196,7 @@ func TestJoinsOfValuesSideBySide(t *testing.T) {
 	r := tuples(rows(nil, ints(11, 2)), rows(nil, ints(1, 12)), rows(nil, ints(1, -1)), rows(nil, ints(least, most)), rows(nil, ints(most, least)))
 	conj := []api.Pred{eq(col(0, 0), col(1, 0)), eq(col(0, 1), col(1, 1))}
 	want := tuples(rows(l[0][0], r[1][1]), rows(l[1][0], r[0][1]), rows(l[3][0], r[4][1]))
-	if got := hash.Join(api.Inner, conj, l, r, 1, 2); !equals(got, want) {
+	if got := hash.Join(api.Inner, conj, l, r, 1, 2); !sample.SameLists(got, want) {
 		t.Error(got)
 	}
 }
@@ -225,7 +226,7 @@ func TestNulls(t *testing.T) {
 			for _, c := range [][2]api.Row{{a, b}, {b, a}} {
 				l, r := tuples(rows(c[0])), tuples(rows(nil, c[1]), rows(nil, c[1]))
 				for kind, want := range map[int][][]api.Row{api.Inner: nil, api.Left: l, api.Semi: nil, api.Anti: l} {
-					if got := hash.Join(kind, conj, l, r, 1, 2); !equals(got, want) {
+					if got := hash.Join(kind, conj, l, r, 1, 2); !sample.SameLists(got, want) {
 						t.Errorf("kind %d of %v and %v: %v", kind, l, r, got)
 					}
 				}
@@ -242,7 +243,7 @@ func TestNullsAmongOthers(t *testing.T) {
 	for kind, want := range map[int][][]api.Row{
 		api.Inner: tuples(one, one), api.Left: tuples(l[0], one, l[2], l[3], one), api.Semi: tuples(l[1], l[4]), api.Anti: tuples(l[0], l[2], l[3]),
 	} {
-		if got := hash.Join(kind, same, l, r, 1, 2); !equals(got, want) {
+		if got := hash.Join(kind, same, l, r, 1, 2); !sample.SameLists(got, want) {
 			t.Errorf("kind %d: %v", kind, got)
 		}
 	}
@@ -252,7 +253,7 @@ func TestNullsAmongOthers(t *testing.T) {
 func TestNullsBesideKeys(t *testing.T) {
 	l, r := tuples(rows(api.Row{{N: 1}, null})), tuples(rows(nil, api.Row{{N: 1}, null}))
 	conj := []api.Pred{same[0], {Kind: api.PredNull, A: col(0, 1)}, {Kind: api.PredNull, A: col(1, 1)}}
-	if got := hash.Join(api.Inner, conj, l, r, 1, 2); !equals(got, tuples(rows(l[0][0], r[0][1]))) {
+	if got := hash.Join(api.Inner, conj, l, r, 1, 2); !sample.SameLists(got, tuples(rows(l[0][0], r[0][1]))) {
 		t.Error(got)
 	}
 }
@@ -276,7 +277,7 @@ func TestNullsOfAllSorts(t *testing.T) {
 			}
 			none++
 			for kind, want := range map[int][][]api.Row{api.Inner: nil, api.Left: tuples(tuple), api.Semi: nil, api.Anti: tuples(tuple)} {
-				if got := hash.Join(kind, conj, tuples(tuple), r, left, right); !equals(got, want) {
+				if got := hash.Join(kind, conj, tuples(tuple), r, left, right); !sample.SameLists(got, want) {
 					t.Errorf("kind %d of %v, %v and %v: %v", kind, conj, tuple, r, got)
 				}
 			}

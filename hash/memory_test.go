@@ -6,6 +6,7 @@ import (
 
 	"watersmeet/api"
 	"watersmeet/hash"
+	"watersmeet/sample"
 )
 
 // What is handed in is neither changed nor kept, and what is handed out is new memory.
@@ -13,51 +14,22 @@ import (
 // mark stands in no tuple of the tests.
 var mark = api.Value{N: -999}
 
-// parts tells all rows of these tuples, the spare room of the lists and of the rows, too.
-func parts(l [][]api.Row) []api.Row {
-	var found []api.Row
-	for _, t := range l[:cap(l)] {
-		for _, row := range t[:cap(t)] {
-			found = append(found, row[:cap(row)])
-		}
-	}
-	return found
-}
-
-// copied tells l in new memory.
-func copied(l []api.Row) []api.Row {
-	var c []api.Row
-	for _, row := range l {
-		c = append(c, slices.Clone(row))
-	}
-	return c
-}
-
-// copies tells tuples in new memory.
-func copies(l [][]api.Row) [][]api.Row {
-	var c [][]api.Row
-	for _, t := range l {
-		c = append(c, copied(t))
-	}
-	return c
-}
-
 func TestMemoryOfRows(t *testing.T) {
 	d := &dice{7}
 	for range 40 {
 		l, r := d.list(4, 62), d.list(4, 1)
-		in := append(parts(l), parts(r)...)
-		was := copied(in)
+		in := append(sample.Room(l), sample.Room(r)...)
+		was := sample.Copy(in)
 		for kind := range 6 {
 			for _, conj := range [][]api.Pred{same, nil} {
 				got := hash.Join(kind, conj, l, r, 1, 62)
-				out := parts(got)
-				before := copied(out)
+				out := sample.Room(got)
+				before := sample.Copy(out)
 				for i, row := range out {
 					for j := range row {
 						row[j] = mark
 					}
-					if !equal(in, was) || !equal(out[:i], before[:i]) || !equal(out[i+1:], before[i+1:]) {
+					if !sample.SameRows(in, was) || !sample.SameRows(out[:i], before[:i]) || !sample.SameRows(out[i+1:], before[i+1:]) {
 						t.Fatalf("the row %d of %v is shared", i, got)
 					}
 					copy(row, before[i])
@@ -71,17 +43,17 @@ func TestMemoryOfTuples(t *testing.T) {
 	d := &dice{8}
 	for range 60 {
 		l, r := d.list(4, 62), d.list(4, 1)
-		was := copied(append(parts(l), parts(r)...))
+		was := sample.Copy(append(sample.Room(l), sample.Room(r)...))
 		for kind := range 6 {
 			for _, conj := range [][]api.Pred{same, nil} {
 				got := hash.Join(kind, conj, l, r, 1, 62)
-				before := copies(got)
+				before := sample.Copies(got)
 				for i, tuple := range got {
 					tuple = tuple[:cap(tuple)]
 					for j := range tuple {
 						tuple[j] = api.Row{mark}
 					}
-					if !equals(got[i+1:], before[i+1:]) || !equal(append(parts(l), parts(r)...), was) {
+					if !sample.SameLists(got[i+1:], before[i+1:]) || !sample.SameRows(append(sample.Room(l), sample.Room(r)...), was) {
 						t.Fatalf("the tuple %d of %v is shared", i, got)
 					}
 				}
@@ -95,16 +67,16 @@ func TestMemoryOfLists(t *testing.T) {
 	l, r := tuples(rows(ints(1)), rows(ints(3))), tuples(rows(nil, ints(1)), rows(nil, ints(2)))
 	for kind := range 6 {
 		got := hash.Join(kind, same, l, r, 1, 2)
-		want := copies(got)
+		want := sample.Copies(got)
 		got = got[:cap(got)]
 		for i := range got {
 			got[i] = rows(ints(9))
 		}
-		if got = hash.Join(kind, same, l, r, 1, 2); !equals(got, want) {
+		if got = hash.Join(kind, same, l, r, 1, 2); !sample.SameLists(got, want) {
 			t.Errorf("kind %d: %v, not %v", kind, got, want)
 		}
 	}
-	if !equals(l, tuples(rows(ints(1)), rows(ints(3)))) || !equals(r, tuples(rows(nil, ints(1)), rows(nil, ints(2)))) {
+	if !sample.SameLists(l, tuples(rows(ints(1)), rows(ints(3)))) || !sample.SameLists(r, tuples(rows(nil, ints(1)), rows(nil, ints(2)))) {
 		t.Error(l, r)
 	}
 }
@@ -119,7 +91,7 @@ func TestNothingIsKept(t *testing.T) {
 		for kind := range 6 {
 			agree(t, kind, conj, l, r, left, right)
 		}
-		for _, row := range slices.Concat(parts(l), parts(r)) {
+		for _, row := range slices.Concat(sample.Room(l), sample.Room(r)) {
 			for i := range row {
 				row[i] = api.Value{N: int64(d.below(2))}
 			}

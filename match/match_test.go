@@ -8,6 +8,7 @@ import (
 	"watersmeet/api"
 	"watersmeet/match"
 	"watersmeet/pred"
+	"watersmeet/sample"
 )
 
 var null = api.Value{Null: true}
@@ -65,16 +66,6 @@ func not(p api.Pred) api.Pred {
 
 func or(l ...api.Pred) api.Pred {
 	return api.Pred{Kind: api.PredOr, Parts: l}
-}
-
-// equal tells whether tuples are as long as each other, with the same rows at the same places; a row that is nil is empty.
-func equal(a, b []api.Row) bool {
-	return slices.EqualFunc(a, b, func(r, s api.Row) bool { return slices.Equal(r, s) })
-}
-
-// equals tells it of lists of tuples.
-func equals(a, b [][]api.Row) bool {
-	return slices.EqualFunc(a, b, equal)
 }
 
 // slowMerge tells what Merge tells: the rows of b are put down by their tables, and then those of a.
@@ -230,7 +221,7 @@ func TestMerge(t *testing.T) {
 		{rows(nil), rows(api.Row{null, wrong[0]}), rows(api.Row{null, wrong[0]})},
 		{rows(ints(1, 2, 3, 4, 5, 6)), rows(ints(9)), rows(ints(1, 2, 3, 4, 5, 6))},
 	} {
-		if got := match.Merge(c.a, c.b); !equal(got, c.want) {
+		if got := match.Merge(c.a, c.b); !sample.SameRows(got, c.want) {
 			t.Errorf("Merge(%v, %v) is %v", c.a, c.b, got)
 		}
 	}
@@ -240,7 +231,7 @@ func TestMergeOfTuplesOfAllSorts(t *testing.T) {
 	d := &dice{1}
 	for range 4000 {
 		a, b := d.tuple(6), d.tuple(6)
-		if got := match.Merge(a, b); !equal(got, slowMerge(a, b)) {
+		if got := match.Merge(a, b); !sample.SameRows(got, slowMerge(a, b)) {
 			t.Errorf("Merge(%v, %v) is %v", a, b, got)
 		}
 	}
@@ -252,7 +243,7 @@ func TestMergeBeyondTables(t *testing.T) {
 	a[0], a[63], a[64], a[69] = ints(1), ints(2), ints(3), ints(4)
 	b[0], b[62], b[64], b[65] = ints(5), ints(6), ints(7), ints(8)
 	for _, c := range [][2][]api.Row{{a, b}, {b, a}} {
-		if got := match.Merge(c[0], c[1]); !equal(got, slowMerge(c[0], c[1])) || len(got) != 70 {
+		if got := match.Merge(c[0], c[1]); !sample.SameRows(got, slowMerge(c[0], c[1])) || len(got) != 70 {
 			t.Errorf("Merge(%v, %v) is %v", c[0], c[1], got)
 		}
 	}
@@ -307,7 +298,7 @@ func TestMatches(t *testing.T) {
 			tuples(rows(nil, ints(1), ints(5)), rows(nil, ints(1)), rows(nil, ints(1), nil), rows(nil, ints(1), api.Row{})),
 			tuples(rows(ints(5), ints(1), ints(5)))},
 	} {
-		if got := match.Matches(c.conj, c.l, c.r); !equals(got, c.want) {
+		if got := match.Matches(c.conj, c.l, c.r); !sample.SameLists(got, c.want) {
 			t.Errorf("%s: %v", c.name, got)
 		}
 	}
@@ -319,7 +310,7 @@ func TestMatchesOfTuplesOfAllSorts(t *testing.T) {
 	for range 6000 {
 		conj, l, r := d.conj(), d.tuple(5), d.list(6)
 		got := match.Matches(conj, l, r)
-		if !equals(got, slowMatches(conj, l, r)) {
+		if !sample.SameLists(got, slowMatches(conj, l, r)) {
 			t.Errorf("Matches(%v, %v, %v) is %v", conj, l, r, got)
 		}
 		some, none = some+len(got), none+len(r)-len(got)
@@ -334,7 +325,7 @@ func TestMatchesBeyondTables(t *testing.T) {
 	l, far := make([]api.Row, 65), make([]api.Row, 101)
 	l[64], far[100] = ints(5), ints(5)
 	conj := []api.Pred{eq(col(64, 0), col(100, 0)), isNull(col(math.MaxInt, 0)), isNull(col(math.MinInt, math.MaxInt))}
-	if got := match.Matches(conj, l, tuples(far, l, nil)); !equals(got, tuples(slowMerge(l, far))) {
+	if got := match.Matches(conj, l, tuples(far, l, nil)); !sample.SameLists(got, tuples(slowMerge(l, far))) {
 		t.Error(got)
 	}
 }
@@ -374,7 +365,7 @@ func TestExtend(t *testing.T) {
 		{api.Leaf, nil, nil},
 		{-1, nil, nil},
 	} {
-		if got := match.Extend(c.kind, conj, l, c.r); !equals(got, c.want) {
+		if got := match.Extend(c.kind, conj, l, c.r); !sample.SameLists(got, c.want) {
 			t.Errorf("kind %d of %v: %v", c.kind, c.r, got)
 		}
 	}
@@ -383,7 +374,7 @@ func TestExtend(t *testing.T) {
 // Example 1: of a Left without a match the tuple alone; Flat tells null of the tables that have no row.
 func TestExample(t *testing.T) {
 	got := match.Extend(api.Left, []api.Pred{eq(col(0, 0), col(1, 0))}, rows(ints(5)), tuples(rows(nil, ints(6))))
-	if !equals(got, tuples(rows(ints(5)))) {
+	if !sample.SameLists(got, tuples(rows(ints(5)))) {
 		t.Fatal(got)
 	}
 	if flat := match.Flat(got[0], 3, []int{1, 2}); !slices.Equal(flat, api.Row{{N: 5}, null, null}) {
@@ -408,7 +399,7 @@ func TestExtendAlone(t *testing.T) {
 			{api.Anti, truthUnknown, tuples(l)},
 			{api.Anti, truthTrue, nil},
 		} {
-			if got := match.Extend(c.kind, []api.Pred{c.truth}, l, long); !equals(got, c.want) {
+			if got := match.Extend(c.kind, []api.Pred{c.truth}, l, long); !sample.SameLists(got, c.want) {
 				t.Errorf("kind %d of %v, %v: %v", c.kind, l, c.truth, got)
 			}
 		}
@@ -426,7 +417,7 @@ func TestExtendByOneOfMany(t *testing.T) {
 		}
 		one := tuples(rows(ints(0), ints(0)))
 		for kind, want := range map[int][][]api.Row{api.Inner: one, api.Left: one, api.Semi: tuples(l), api.Anti: nil} {
-			if got := match.Extend(kind, conj, l, r); !equals(got, want) {
+			if got := match.Extend(kind, conj, l, r); !sample.SameLists(got, want) {
 				t.Errorf("kind %d, a match at %d: %v", kind, at, got)
 			}
 		}
@@ -448,7 +439,7 @@ func TestKinds(t *testing.T) {
 			none++
 		}
 		for _, kind := range kinds {
-			if got := match.Extend(kind, conj, l, r); !equals(got, slowOf(kind, l, found)) {
+			if got := match.Extend(kind, conj, l, r); !sample.SameLists(got, slowOf(kind, l, found)) {
 				t.Errorf("Extend(%d, %v, %v, %v) is %v", kind, conj, l, r, got)
 			}
 		}
@@ -477,7 +468,7 @@ func TestKindsOfOthersWithTheSameMatches(t *testing.T) {
 			{[]api.Pred{truthUnknown}, whole, none},
 			{[]api.Pred{truthFalse}, nil, none},
 		} {
-			if got := match.Extend(kind, c.conj, l, c.r); !equals(got, c.want) {
+			if got := match.Extend(kind, c.conj, l, c.r); !sample.SameLists(got, c.want) {
 				t.Errorf("kind %d of %v, %v: %v", kind, c.conj, c.r, got)
 			}
 		}

@@ -6,32 +6,13 @@ import (
 
 	"watersmeet/api"
 	"watersmeet/match"
+	"watersmeet/sample"
 )
 
 // What is handed in is not changed, and what is handed out is new memory.
 
 // mark stands in no tuple of the tests.
 var mark = api.Value{N: -999}
-
-// parts tells all rows of these tuples, the spare room of the lists and of the rows, too.
-func parts(l [][]api.Row) []api.Row {
-	var found []api.Row
-	for _, t := range l[:cap(l)] {
-		for _, row := range t[:cap(t)] {
-			found = append(found, row[:cap(row)])
-		}
-	}
-	return found
-}
-
-// copied tells l in new memory.
-func copied(l []api.Row) []api.Row {
-	var c []api.Row
-	for _, row := range l {
-		c = append(c, slices.Clone(row))
-	}
-	return c
-}
 
 // tried are calls that hand tuples out.
 func tried(conj []api.Pred, l []api.Row, r [][]api.Row) map[string][][]api.Row {
@@ -66,17 +47,17 @@ func TestMemoryOfRows(t *testing.T) {
 	d := &dice{5}
 	for range 60 {
 		conj, l, r := d.conj(), d.tuple(5), d.list(4)
-		in := append(parts(r), parts(tuples(l))...)
-		was := copied(in)
+		in := append(sample.Room(r), sample.Room(tuples(l))...)
+		was := sample.Copy(in)
 		for name, got := range tried(conj, l, r) {
-			if !equal(in, was) {
+			if !sample.SameRows(in, was) {
 				t.Fatalf("%s: what was handed in is changed", name)
 			}
-			out := parts(got)
-			told := copied(out)
+			out := sample.Room(got)
+			told := sample.Copy(out)
 			for i, row := range out {
 				alone := written(row, func() bool {
-					return equal(in, was) && equal(out[:i], told[:i]) && equal(out[i+1:], told[i+1:])
+					return sample.SameRows(in, was) && sample.SameRows(out[:i], told[:i]) && sample.SameRows(out[i+1:], told[i+1:])
 				})
 				if !alone {
 					t.Fatalf("%s: the row %d of %v is shared", name, i, got)
@@ -91,19 +72,19 @@ func TestMemoryOfTuples(t *testing.T) {
 	d := &dice{6}
 	for range 200 {
 		conj, l, r := d.conj(), d.tuple(5), d.list(4)
-		in := append(parts(r), parts(tuples(l))...)
-		was := copied(in)
+		in := append(sample.Room(r), sample.Room(tuples(l))...)
+		was := sample.Copy(in)
 		for name, got := range tried(conj, l, r) {
 			var told [][]api.Row
 			for _, tuple := range got {
-				told = append(told, copied(tuple))
+				told = append(told, sample.Copy(tuple))
 			}
 			for i, tuple := range got {
 				tuple = tuple[:cap(tuple)]
 				for j := range tuple {
 					tuple[j] = api.Row{mark}
 				}
-				if !equals(got[i+1:], told[i+1:]) || !equal(append(parts(r), parts(tuples(l))...), was) {
+				if !sample.SameLists(got[i+1:], told[i+1:]) || !sample.SameRows(append(sample.Room(r), sample.Room(tuples(l))...), was) {
 					t.Fatalf("%s: the tuple %d of %v is shared", name, i, got)
 				}
 			}
@@ -120,7 +101,7 @@ func TestMemoryOfLists(t *testing.T) {
 		for i := range got {
 			got[i] = nil
 		}
-		if !equals(r, tuples(rows(nil, ints(1)), rows(nil, ints(2)))) || !equals(match.Extend(kind, nil, l, r), again) || len(again) == 0 || len(again[0]) == 0 {
+		if !sample.SameLists(r, tuples(rows(nil, ints(1)), rows(nil, ints(2)))) || !sample.SameLists(match.Extend(kind, nil, l, r), again) || len(again) == 0 || len(again[0]) == 0 {
 			t.Errorf("kind %d: %v, %v", kind, r, again)
 		}
 	}
@@ -134,11 +115,11 @@ func TestMemoryOfFlat(t *testing.T) {
 		for i := range cols {
 			cols[i] = d.below(5) - 1
 		}
-		in, numbers := parts(tuples(l)), slices.Clone(cols[:cap(cols)])
-		was := copied(in)
+		in, numbers := sample.Room(tuples(l)), slices.Clone(cols[:cap(cols)])
+		was := sample.Copy(in)
 		got, again := match.Flat(l, 31, cols), match.Flat(l, 31, cols)
 		told := slices.Clone(again)
-		alone := written(got[:cap(got)], func() bool { return equal(in, was) && slices.Equal(again, told) })
+		alone := written(got[:cap(got)], func() bool { return sample.SameRows(in, was) && slices.Equal(again, told) })
 		if !alone || !slices.Equal(cols[:cap(cols)], numbers) {
 			t.Errorf("Flat(%v, 31, %v) shares what it tells", l, cols)
 		}
@@ -151,14 +132,14 @@ func TestMemoryIsNotKept(t *testing.T) {
 	conj := []api.Pred{eq(col(0, 0), col(1, 0))}
 	before := match.Matches(conj, l, r)
 	l[0][0], r[1][1][0] = api.Value{N: 2}, api.Value{N: 3}
-	if !equals(before, tuples(rows(ints(1), ints(1)))) {
+	if !sample.SameLists(before, tuples(rows(ints(1), ints(1)))) {
 		t.Error(before)
 	}
 	if after := match.Matches(conj, l, r); len(after) != 0 {
 		t.Error(after)
 	}
 	r[0][1][0] = api.Value{N: 2}
-	if after := match.Matches(conj, l, r); !equals(after, tuples(rows(ints(2), ints(2)))) {
+	if after := match.Matches(conj, l, r); !sample.SameLists(after, tuples(rows(ints(2), ints(2)))) {
 		t.Error(after)
 	}
 }
@@ -192,7 +173,7 @@ func TestDeepPredicates(t *testing.T) {
 	for range 1 << 16 {
 		p = not(p)
 	}
-	if got := match.Matches([]api.Pred{p}, rows(ints(1)), tuples(rows(nil, ints(2)), rows(nil, ints(1)))); !equals(got, tuples(rows(ints(1), ints(1)))) {
+	if got := match.Matches([]api.Pred{p}, rows(ints(1)), tuples(rows(nil, ints(2)), rows(nil, ints(1)))); !sample.SameLists(got, tuples(rows(ints(1), ints(1)))) {
 		t.Error(got)
 	}
 }

@@ -6,41 +6,13 @@ import (
 
 	"watersmeet/api"
 	"watersmeet/nest"
+	"watersmeet/sample"
 )
 
 // What is handed in is neither changed nor kept, and what is handed out is new memory.
 
 // mark stands in no tuple of the tests.
 var mark = api.Value{N: -999}
-
-// parts tells all rows of these tuples, the spare room of the lists and of the rows, too.
-func parts(l [][]api.Row) []api.Row {
-	var found []api.Row
-	for _, t := range l[:cap(l)] {
-		for _, row := range t[:cap(t)] {
-			found = append(found, row[:cap(row)])
-		}
-	}
-	return found
-}
-
-// copied tells l in new memory.
-func copied(l []api.Row) []api.Row {
-	var c []api.Row
-	for _, row := range l {
-		c = append(c, slices.Clone(row))
-	}
-	return c
-}
-
-// copies tells tuples in new memory.
-func copies(l [][]api.Row) [][]api.Row {
-	var c [][]api.Row
-	for _, t := range l {
-		c = append(c, copied(t))
-	}
-	return c
-}
 
 // told are lists of tuples that calls hand out; those of one tour are put one behind the other, so that they are held against each other, too.
 func told(conj []api.Pred, l, r [][]api.Row) [][][]api.Row {
@@ -57,16 +29,16 @@ func TestMemoryOfRows(t *testing.T) {
 	d := &dice{4}
 	for range 12 {
 		conj, l, r := d.conj(), d.list(3), d.list(3)
-		in := append(parts(l), parts(r)...)
-		was := copied(in)
+		in := append(sample.Room(l), sample.Room(r)...)
+		was := sample.Copy(in)
 		for _, got := range told(conj, l, r) {
-			out := parts(got)
-			before := copied(out)
+			out := sample.Room(got)
+			before := sample.Copy(out)
 			for i, row := range out {
 				for j := range row {
 					row[j] = mark
 				}
-				if !equal(in, was) || !equal(out[:i], before[:i]) || !equal(out[i+1:], before[i+1:]) {
+				if !sample.SameRows(in, was) || !sample.SameRows(out[:i], before[:i]) || !sample.SameRows(out[i+1:], before[i+1:]) {
 					t.Fatalf("the row %d of %v is shared", i, got)
 				}
 				copy(row, before[i])
@@ -79,15 +51,15 @@ func TestMemoryOfTuples(t *testing.T) {
 	d := &dice{5}
 	for range 60 {
 		conj, l, r := d.conj(), d.list(3), d.list(3)
-		was := copied(append(parts(l), parts(r)...))
+		was := sample.Copy(append(sample.Room(l), sample.Room(r)...))
 		for _, got := range told(conj, l, r) {
-			before := copies(got)
+			before := sample.Copies(got)
 			for i, tuple := range got {
 				tuple = tuple[:cap(tuple)]
 				for j := range tuple {
 					tuple[j] = api.Row{mark}
 				}
-				if !equals(got[i+1:], before[i+1:]) || !equal(append(parts(l), parts(r)...), was) {
+				if !sample.SameLists(got[i+1:], before[i+1:]) || !sample.SameRows(append(sample.Room(l), sample.Room(r)...), was) {
 					t.Fatalf("the tuple %d of %v is shared", i, got)
 				}
 			}
@@ -99,12 +71,12 @@ func TestMemoryOfTuples(t *testing.T) {
 func TestMemoryOfLists(t *testing.T) {
 	l, r := tuples(rows(ints(1)), rows(ints(3))), tuples(rows(nil, ints(1)), rows(nil, ints(2)))
 	for kind := range 5 {
-		want := copies(nest.Join(kind, same, l, r))
+		want := sample.Copies(nest.Join(kind, same, l, r))
 		tour := nest.Each(kind, same, l, r)
 		for range 3 {
 			var found [][]api.Row
 			for made := range tour {
-				found = append(found, copies(made)...)
+				found = append(found, sample.Copies(made)...)
 				made = made[:cap(made)]
 				for i, tuple := range made {
 					for j := range tuple {
@@ -116,7 +88,7 @@ func TestMemoryOfLists(t *testing.T) {
 					made[i] = rows(ints(9))
 				}
 			}
-			if !equals(found, want) {
+			if !sample.SameLists(found, want) {
 				t.Errorf("kind %d: %v, not %v", kind, found, want)
 			}
 		}
@@ -124,11 +96,11 @@ func TestMemoryOfLists(t *testing.T) {
 		for i := range got[:cap(got)] {
 			got[:cap(got)][i] = nil
 		}
-		if !equals(nest.Join(kind, same, l, r), want) {
+		if !sample.SameLists(nest.Join(kind, same, l, r), want) {
 			t.Errorf("kind %d: %v, %v", kind, l, r)
 		}
 	}
-	if !equals(l, tuples(rows(ints(1)), rows(ints(3)))) || !equals(r, tuples(rows(nil, ints(1)), rows(nil, ints(2)))) {
+	if !sample.SameLists(l, tuples(rows(ints(1)), rows(ints(3)))) || !sample.SameLists(r, tuples(rows(nil, ints(1)), rows(nil, ints(2)))) {
 		t.Error(l, r)
 	}
 }
@@ -163,7 +135,7 @@ func TestMemoryIsNotKept(t *testing.T) {
 		spoil(conj, l, r)
 		i := 0
 		for made := range tour {
-			if !equals(made, want[i]) {
+			if !sample.SameLists(made, want[i]) {
 				t.Errorf("the list %d of a tour that began late, from %d: %v", i, seed, made)
 			}
 			i++
@@ -171,7 +143,7 @@ func TestMemoryIsNotKept(t *testing.T) {
 		conj, l, r = d.conj(), d.list(4), d.list(4)
 		want, i = all(kind, conj, l, r), 0
 		for made := range nest.Each(kind, conj, l, r) {
-			if !equals(made, want[i]) {
+			if !sample.SameLists(made, want[i]) {
 				t.Errorf("the list %d of a tour that goes on, from %d: %v", i, seed, made)
 			}
 			i++
@@ -263,10 +235,10 @@ func TestDeepPredicates(t *testing.T) {
 		p = not(p)
 	}
 	want := tuples(rows(ints(1), ints(1)))
-	if got := slices.Concat(all(api.Inner, []api.Pred{p}, tuples(rows(ints(1)), rows(ints(2))), tuples(rows(nil, ints(1))))...); !equals(got, want) {
+	if got := slices.Concat(all(api.Inner, []api.Pred{p}, tuples(rows(ints(1)), rows(ints(2))), tuples(rows(nil, ints(1))))...); !sample.SameLists(got, want) {
 		t.Error(got)
 	}
-	if got := nest.Join(api.Inner, []api.Pred{p}, tuples(rows(ints(1)), rows(ints(2))), tuples(rows(nil, ints(1)))); !equals(got, want) {
+	if got := nest.Join(api.Inner, []api.Pred{p}, tuples(rows(ints(1)), rows(ints(2))), tuples(rows(nil, ints(1)))); !sample.SameLists(got, want) {
 		t.Error(got)
 	}
 }

@@ -9,6 +9,7 @@ import (
 	"watersmeet/match"
 	"watersmeet/nest"
 	"watersmeet/pred"
+	"watersmeet/sample"
 )
 
 var null = api.Value{Null: true}
@@ -58,16 +59,6 @@ func not(p api.Pred) api.Pred {
 
 // same is that the first columns of the tables 0 and 1 are.
 var same = []api.Pred{cmp(api.Eq, col(0, 0), col(1, 0))}
-
-// equal tells whether tuples are as long as each other, with the same rows at the same places; a row that is nil is empty.
-func equal(a, b []api.Row) bool {
-	return slices.EqualFunc(a, b, func(r, s api.Row) bool { return slices.Equal(r, s) })
-}
-
-// equals tells it of lists of tuples.
-func equals(a, b [][]api.Row) bool {
-	return slices.EqualFunc(a, b, equal)
-}
 
 // all tells what a tour tells, list by list.
 func all(kind int, conj []api.Pred, l, r [][]api.Row) [][][]api.Row {
@@ -202,10 +193,10 @@ func TestEach(t *testing.T) {
 		{"no tuples on the left", api.Inner, same, nil, r, nil},
 	} {
 		told := all(c.kind, c.conj, c.l, c.r)
-		if !slices.EqualFunc(told, c.want, equals) {
+		if !slices.EqualFunc(told, c.want, sample.SameLists) {
 			t.Errorf("%s: Each tells %v", c.name, told)
 		}
-		if got := nest.Join(c.kind, c.conj, c.l, c.r); !equals(got, slices.Concat(c.want...)) {
+		if got := nest.Join(c.kind, c.conj, c.l, c.r); !sample.SameLists(got, slices.Concat(c.want...)) {
 			t.Errorf("%s: Join is %v", c.name, got)
 		}
 	}
@@ -241,7 +232,7 @@ func TestJoinsOfAllSorts(t *testing.T) {
 				t.Fatalf("kind %d of %d tuples tells %d lists", kind, len(l), len(told))
 			}
 			for i, made := range told {
-				if !equals(made, match.Extend(kind, conj, l[i], r)) || !equals(made, slow(kind, conj, l[i], r)) {
+				if !sample.SameLists(made, match.Extend(kind, conj, l[i], r)) || !sample.SameLists(made, slow(kind, conj, l[i], r)) {
 					t.Errorf("Each(%d, %v, %v, %v) tells %v of the tuple %d", kind, conj, l, r, made, i)
 				}
 				if len(made) > 0 {
@@ -251,7 +242,7 @@ func TestJoinsOfAllSorts(t *testing.T) {
 				}
 				want = append(want, made...)
 			}
-			if got := nest.Join(kind, conj, l, r); !equals(got, want) {
+			if got := nest.Join(kind, conj, l, r); !sample.SameLists(got, want) {
 				t.Errorf("Join(%d, %v, %v, %v) is %v", kind, conj, l, r, got)
 			}
 		}
@@ -277,18 +268,18 @@ func TestToursThatAreLeft(t *testing.T) {
 						break
 					}
 				}
-				if !slices.EqualFunc(told, want[:end+1], equals) {
+				if !slices.EqualFunc(told, want[:end+1], sample.SameLists) {
 					t.Errorf("left at %d: %v", end, told)
 				}
 			}
 			n := 0
 			for outer := range tour {
-				if !equals(outer, want[n]) {
+				if !sample.SameLists(outer, want[n]) {
 					t.Errorf("the outer tour's list %d: %v", n, outer)
 				}
 				i := 0
 				for inner := range tour {
-					if !equals(inner, want[i]) {
+					if !sample.SameLists(inner, want[i]) {
 						t.Errorf("the inner tour's list %d: %v", i, inner)
 					}
 					i++
@@ -326,11 +317,11 @@ func TestParts(t *testing.T) {
 		whole := slices.Concat(l, m)
 		for _, kind := range kinds {
 			want := slices.Concat(nest.Join(kind, conj, l, r), nest.Join(kind, conj, m, r))
-			if got := nest.Join(kind, conj, whole, r); !equals(got, want) {
+			if got := nest.Join(kind, conj, whole, r); !sample.SameLists(got, want) {
 				t.Errorf("Join(%d, %v, %v and %v, %v) is %v", kind, conj, l, m, r, got)
 			}
 			lists := slices.Concat(all(kind, conj, l, r), all(kind, conj, m, r))
-			if got := all(kind, conj, whole, r); !slices.EqualFunc(got, lists, equals) {
+			if got := all(kind, conj, whole, r); !slices.EqualFunc(got, lists, sample.SameLists) {
 				t.Errorf("Each(%d, %v, %v and %v, %v) tells %v", kind, conj, l, m, r, got)
 			}
 		}
@@ -347,7 +338,7 @@ func TestPartsOfOneList(t *testing.T) {
 			t.Errorf("kind %d: %v", kind, whole)
 		}
 		for at := range len(l) + 1 {
-			if got := append(nest.Join(kind, same, l[:at], r), nest.Join(kind, same, l[at:], r)...); !equals(got, whole) {
+			if got := append(nest.Join(kind, same, l[:at], r), nest.Join(kind, same, l[at:], r)...); !sample.SameLists(got, whole) {
 				t.Errorf("kind %d, parted at %d: %v", kind, at, got)
 			}
 		}
