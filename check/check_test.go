@@ -108,15 +108,6 @@ func copied(q api.Query) api.Query {
 	return api.Query{Cols: slices.Clone(q.Cols), Root: tree.Copy(q.Root)}
 }
 
-// within tells the trees in t in the order of the tour, where they stand.
-func within(t *api.Tree) []*api.Tree {
-	var l []*api.Tree
-	for i := range t.Kids {
-		l = append(l, within(&t.Kids[i])...)
-	}
-	return append(l, t)
-}
-
 // Slow twins: they find all that is wrong, and then look for what comes first.
 
 // slowPred tells whether p may be at this depth, and hands all its columns to each.
@@ -214,7 +205,7 @@ func slowQuery(q api.Query) api.Errno {
 		}
 	}
 	tables, conj := map[int]bool{}, 0
-	for _, t := range within(&q.Root) {
+	for _, t := range sample.Within(&q.Root) {
 		if errno := slowTree(*t, q.Cols, tables, conj); errno != api.OK {
 			return errno
 		}
@@ -441,7 +432,7 @@ func TestQueryOfConj(t *testing.T) {
 	// 63 operators have one each, so there is room for one more, wherever it is.
 	for i := range 63 {
 		x := chain(64, 1)
-		at := within(&x)[2*i+2]
+		at := sample.Within(&x)[2*i+2]
 		at.Conj = append(at.Conj, at.Conj[0])
 		hold(t, "64 of 63 operators", api.Query{Cols: cols(64, 1), Root: x}, api.OK)
 		at.Conj = append(at.Conj, at.Conj[0])
@@ -611,7 +602,7 @@ func TestQueryOfTwoFaults(t *testing.T) {
 		for i, one := range faults {
 			for j, other := range faults {
 				x := copied(q)
-				l := within(&x.Root)
+				l := sample.Within(&x.Root)
 				if !one(l[(i+j)%size]) || !other(l[(n+3*j)%size]) {
 					continue
 				}
@@ -666,7 +657,7 @@ func TestQueryOfTwice(t *testing.T) {
 	for i := range 64 {
 		for j := range i {
 			x := chain(64, 1)
-			within(&x)[max(2*i-1, 0)].Table = j
+			sample.Within(&x)[max(2*i-1, 0)].Table = j
 			hold(t, "one of 64 leaves", api.Query{Cols: cols(64, 1), Root: x}, api.ErrTwice)
 		}
 	}

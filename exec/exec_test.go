@@ -57,15 +57,6 @@ func hashing(t api.Tree, word uint64) api.Tree {
 	return t
 }
 
-// within tells the trees in t where they stand.
-func within(t *api.Tree) []*api.Tree {
-	l := []*api.Tree{t}
-	for i := range t.Kids {
-		l = append(l, within(&t.Kids[i])...)
-	}
-	return l
-}
-
 // slow is a tuple as the rows of its tables, and how long it is.
 type slow struct {
 	rows map[int]api.Row
@@ -468,7 +459,7 @@ func TestRunOfWrong(t *testing.T) {
 	for range 4000 {
 		q := dice.Query(6)
 		d := dice.Data(q.Cols, 4)
-		parts := within(&q.Root)
+		parts := sample.Within(&q.Root)
 		part := parts[dice.Below(len(parts))]
 		i := dice.Below(len(q.Cols))
 		switch dice.Below(8) {

@@ -59,3 +59,33 @@ func TestTexts(t *testing.T) {
 		t.Error(got)
 	}
 }
+
+// A tree is opened with what stands in its spare room, and spoilt there, too; what was opened stays.
+func TestTrees(t *testing.T) {
+	parts := []api.Pred{{Truth: 1}, {Truth: 2}}
+	conj := []api.Pred{{Kind: api.PredAnd, Parts: parts[:1]}, {Truth: 3}}
+	kids := []api.Tree{{Table: 5}, {Table: 6, Conj: conj[:1]}, {Table: 7}}
+	x := api.Tree{Kind: api.Left, Kids: kids[:2], Conj: conj[:1]}
+	var tables []int
+	for _, part := range sample.Within(&x) {
+		tables = append(tables, part.Table)
+		part.Table++
+	}
+	if !slices.Equal(tables, []int{5, 6, 0}) || x.Table != 1 || kids[0].Table != 6 || kids[1].Table != 7 {
+		t.Error(tables, x)
+	}
+	opened := sample.Opened(x)
+	if len(opened.Kids) != 3 || opened.Kids[2].Table != 7 || len(opened.Conj) != 2 || len(opened.Kids[1].Conj[0].Parts) != 2 {
+		t.Error(opened)
+	}
+	was := tree.Copy(opened)
+	sample.Spoil(x)
+	for _, kid := range kids {
+		if kid.Table != 77 {
+			t.Error(kids)
+		}
+	}
+	if conj[0].Kind != 77 || conj[1].Kind != 77 || parts[0].Kind != 77 || parts[1].Kind != 77 || !tree.Same(opened, was) {
+		t.Error(conj, parts, opened)
+	}
+}

@@ -9,6 +9,7 @@ import (
 	"unicode/utf8"
 
 	"watersmeet/api"
+	"watersmeet/sample"
 	"watersmeet/shape"
 	"watersmeet/text"
 	"watersmeet/tree"
@@ -384,34 +385,18 @@ func TestParseOfGreatTexts(t *testing.T) {
 	holdAt(t, "(0⋈[∅"+strings.Repeat("9", 16*many), 5, api.ErrRange)
 }
 
-// spoil writes into all lists in t.
-func spoil(t api.Tree) {
-	for i := range t.Conj {
-		for j := range t.Conj[i].Parts {
-			t.Conj[i].Parts[j].Kind = 77
-		}
-		t.Conj[i].Truth = 77
-	}
-	for i := range t.Kids {
-		spoil(t.Kids[i])
-		t.Kids[i].Kind = 77
-	}
-	_ = append(t.Conj, api.Pred{Kind: 77})
-	_ = append(t.Kids, api.Tree{Kind: 77})
-}
-
 // What is handed out is new memory each time, and no two lists in it share any.
 func TestParseSharesNothing(t *testing.T) {
 	part := "(0⋈[∧(⊤;⊤);⊤]1)"
 	s := "(" + part + "⟕[∧(⊤;⊤);⊤](" + part + "▷[∧(⊤;⊤);⊤]" + part + "))"
 	x, _, _ := shape.Parse(s)
-	for at := range within(&x) {
+	for at := range sample.Within(&x) {
 		y, _, _ := shape.Parse(s)
-		l := within(&y)
+		l := sample.Within(&y)
 		before := tree.Copy(y)
 		one := l[at]
 		kept := slowPrint(*one)
-		spoil(*one)
+		sample.Spoil(*one)
 		mended, _, _ := shape.Parse(kept)
 		*one = mended
 		if !tree.Same(y, before) {

@@ -10,6 +10,7 @@ import (
 
 	"watersmeet/api"
 	"watersmeet/pred"
+	"watersmeet/sample"
 	"watersmeet/shape"
 	"watersmeet/text"
 	"watersmeet/tree"
@@ -149,15 +150,6 @@ func some() []api.Tree {
 	}
 	for n := 60; n <= 64; n++ {
 		l = append(l, d.on(n))
-	}
-	return l
-}
-
-// within tells the trees in t where they stand.
-func within(t *api.Tree) []*api.Tree {
-	l := []*api.Tree{t}
-	for i := range t.Kids {
-		l = append(l, within(&t.Kids[i])...)
 	}
 	return l
 }
@@ -315,10 +307,10 @@ func TestRightOfFaults(t *testing.T) {
 		if i%10 > 3 && i < 300 {
 			continue
 		}
-		for at := range within(&x) {
+		for at := range sample.Within(&x) {
 			for _, fault := range faults {
 				y := tree.Copy(x)
-				one := within(&y)[at]
+				one := sample.Within(&y)[at]
 				if fault.leaf == (one.Kind == api.Leaf) {
 					fault.make(one)
 					holdRight(t, fmt.Sprint("tree ", i, ", at ", at, ": ", fault.name), y, false)
@@ -466,35 +458,21 @@ func spared(d *dice, n int) api.Tree {
 	return api.Tree{Kind: api.Inner + d.below(4), Kids: kids[:2], Conj: conj[:1+d.below(2)], Hash: d.below(2) == 0}
 }
 
-// opened tells t in new memory, what stands in spare room with it.
-func opened(t api.Tree) api.Tree {
-	conj := slices.Clone(t.Conj[:cap(t.Conj)])
-	for i, p := range conj {
-		conj[i].Parts = slices.Clone(p.Parts[:cap(p.Parts)])
-	}
-	kids := slices.Clone(t.Kids[:cap(t.Kids)])
-	for i, kid := range kids {
-		kids[i] = opened(kid)
-	}
-	t.Kids, t.Conj = kids, conj
-	return t
-}
-
 func TestLeavesWhatIsHandedIn(t *testing.T) {
 	d := &dice{15}
 	for i := range 200 {
 		x := spared(d, 1+i%20)
 		if i%3 == 0 {
-			l := within(&x)
+			l := sample.Within(&x)
 			l[d.below(len(l))].Table = 64
 		}
-		before := opened(x)
+		before := sample.Opened(x)
 		right := shape.Right(x)
 		s, e := shape.Print(x)
 		if again, f := shape.Print(x); again != s || f != e || shape.Right(x) != right {
 			t.Errorf("the tree %d has another text when it is printed again", i)
 		}
-		if !reflect.DeepEqual(opened(x), before) {
+		if !reflect.DeepEqual(sample.Opened(x), before) {
 			t.Errorf("the tree %d is changed", i)
 		}
 		holdRight(t, fmt.Sprint("the tree with spare room ", i), x, i%3 > 0)

@@ -8,6 +8,7 @@ import (
 	"testing"
 
 	"watersmeet/api"
+	"watersmeet/sample"
 	"watersmeet/tree"
 )
 
@@ -178,46 +179,12 @@ func clonedPreds(l []api.Pred) []api.Pred {
 	return l
 }
 
-// opened tells t in new memory, with what is in the rooms behind its lists as if it were in them.
-func opened(t api.Tree) api.Tree {
-	t.Conj = openedPreds(t.Conj)
-	t.Kids = slices.Clone(t.Kids[:cap(t.Kids)])
-	for i, kid := range t.Kids {
-		t.Kids[i] = opened(kid)
-	}
-	return t
-}
-
-func openedPreds(l []api.Pred) []api.Pred {
-	l = slices.Clone(l[:cap(l)])
-	for i, p := range l {
-		l[i].Parts = openedPreds(p.Parts)
-	}
-	return l
-}
-
 // spoil writes into all Kids of t, and into the rooms behind them.
 func spoil(t api.Tree) {
 	kids := t.Kids[:cap(t.Kids)]
 	for i := range kids {
 		spoil(kids[i])
 		kids[i] = api.Tree{Kind: 77, Table: 77, Hash: true}
-	}
-}
-
-// spoilAll writes into all lists of t, and into the rooms behind them.
-func spoilAll(t api.Tree) {
-	for _, part := range slowWalk(t) {
-		spoilPreds(part.Conj)
-	}
-	spoil(t)
-}
-
-func spoilPreds(l []api.Pred) {
-	l = l[:cap(l)]
-	for i := range l {
-		spoilPreds(l[i].Parts)
-		l[i] = api.Pred{Kind: 77}
 	}
 }
 
@@ -478,17 +445,17 @@ func TestSameBySlowTwin(t *testing.T) {
 
 func TestCopy(t *testing.T) {
 	for i, x := range some() {
-		before, want := opened(x), text(x)
+		before, want := sample.Opened(x), text(x)
 		y := tree.Copy(x)
 		if text(y) != want || !tree.Same(x, y) {
 			t.Errorf("the copy of the tree %d is %v", i, y)
 		}
-		spoilAll(y)
-		if !reflect.DeepEqual(opened(x), before) {
+		sample.Spoil(y)
+		if !reflect.DeepEqual(sample.Opened(x), before) {
 			t.Errorf("the tree %d is changed by its copy", i)
 		}
 		y = tree.Copy(x)
-		spoilAll(x)
+		sample.Spoil(x)
 		if text(y) != want {
 			t.Errorf("the copy of the tree %d is changed by it", i)
 		}
@@ -505,7 +472,7 @@ func TestCopySharesNothing(t *testing.T) {
 	y := tree.Copy(x)
 	want := texts(y.Kids)
 	for i := range y.Kids {
-		spoilAll(y.Kids[i])
+		sample.Spoil(y.Kids[i])
 		if got := texts(y.Kids); !slices.Equal(got[i+1:], want[i+1:]) {
 			t.Errorf("the Kid %d shares memory with one behind it", i)
 		}
@@ -603,7 +570,7 @@ func TestWalkAgain(t *testing.T) {
 // Whatever is done to the Kids of what is told, it is of no matter to what comes behind, to another tour, and to what was handed in.
 func TestWalkSharesNoKids(t *testing.T) {
 	for i, x := range append(some(), wrap(api.Left, 200, 0, leaf(0), leaf(1)), wrap(api.Left, 200, 1, leaf(0), leaf(1))) {
-		before, want := opened(x), texts(slowWalk(x))
+		before, want := sample.Opened(x), texts(slowWalk(x))
 		walk := tree.Walk(x)
 		for range 2 {
 			var got []string
@@ -615,7 +582,7 @@ func TestWalkSharesNoKids(t *testing.T) {
 				t.Errorf("the tour of the tree %d is changed", i)
 			}
 		}
-		if !reflect.DeepEqual(opened(x), before) {
+		if !reflect.DeepEqual(sample.Opened(x), before) {
 			t.Errorf("the tree %d is changed", i)
 		}
 	}
@@ -644,11 +611,11 @@ func TestWalkKeepsNothing(t *testing.T) {
 			walk := tree.Walk(y)
 			var got []string
 			if !meanwhile {
-				spoilAll(y)
+				sample.Spoil(y)
 			}
 			for part := range walk {
 				got = append(got, text(part))
-				spoilAll(y)
+				sample.Spoil(y)
 			}
 			if !slices.Equal(got, want) {
 				t.Errorf("the tour of the tree %d is changed with it; meanwhile: %t", i, meanwhile)
@@ -664,7 +631,7 @@ func TestLeavesWhatIsHandedIn(t *testing.T) {
 	conj := []api.Pred{and(parts[:2]...), yes, and(parts[:1]...), {}}
 	kids := []api.Tree{leaf(0), {Kind: api.Semi, Kids: []api.Tree{leaf(1), leaf(2), leaf(3)}[:2], Conj: conj[:1]}, {Kind: 9, Conj: conj[:0]}, leaf(4)}
 	x := api.Tree{Kind: api.Inner, Kids: kids[:3], Conj: conj[:3], Hash: true}
-	before := opened(x)
+	before := sample.Opened(x)
 	tree.Tables(x)
 	tree.Seen(x)
 	tree.Same(x, x.Kids[1])
@@ -674,8 +641,8 @@ func TestLeavesWhatIsHandedIn(t *testing.T) {
 		_ = append(part.Kids, leaf(99), leaf(99))
 	}
 	tree.Size(x)
-	if !reflect.DeepEqual(opened(x), before) {
-		t.Errorf("%v is changed to %v", before, opened(x))
+	if !reflect.DeepEqual(sample.Opened(x), before) {
+		t.Errorf("%v is changed to %v", before, sample.Opened(x))
 	}
 }
 

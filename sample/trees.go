@@ -1,0 +1,52 @@
+package sample
+
+import (
+	"slices"
+
+	"watersmeet/api"
+)
+
+// Within tells the trees in t where they stand, in the order of the tour.
+func Within(t *api.Tree) []*api.Tree {
+	var l []*api.Tree
+	for i := range t.Kids {
+		l = append(l, Within(&t.Kids[i])...)
+	}
+	return append(l, t)
+}
+
+// Opened tells t in new memory, with what is in the rooms behind its lists as if it were in them.
+func Opened(t api.Tree) api.Tree {
+	t.Conj = openedPreds(t.Conj)
+	t.Kids = slices.Clone(t.Kids[:cap(t.Kids)])
+	for i, kid := range t.Kids {
+		t.Kids[i] = Opened(kid)
+	}
+	return t
+}
+
+// Spoil writes into all lists of t, and into the rooms behind them.
+func Spoil(t api.Tree) {
+	spoilPreds(t.Conj)
+	kids := t.Kids[:cap(t.Kids)]
+	for i, kid := range kids {
+		Spoil(kid)
+		kids[i] = api.Tree{Kind: 77, Table: 77, Hash: true}
+	}
+}
+
+func openedPreds(l []api.Pred) []api.Pred {
+	l = slices.Clone(l[:cap(l)])
+	for i, p := range l {
+		l[i].Parts = openedPreds(p.Parts)
+	}
+	return l
+}
+
+func spoilPreds(l []api.Pred) {
+	l = l[:cap(l)]
+	for i, p := range l {
+		spoilPreds(p.Parts)
+		l[i] = api.Pred{Kind: 77}
+	}
+}
