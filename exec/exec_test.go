@@ -15,7 +15,6 @@ import (
 	"watersmeet/pred"
 	"watersmeet/sample"
 	"watersmeet/sets"
-	"watersmeet/shape"
 	"watersmeet/tree"
 )
 
@@ -24,15 +23,6 @@ var wrong = api.Value{Null: true, N: 1}
 
 // strange are numbers that are no table of short data, some of which would be one if they were cut to fewer digits.
 var strange = []int{-1, -2, -64, 7, 63, 64, 256, 1 << 16, 1 << 32, 1<<32 + 1, 1<<62 + 1, math.MinInt, math.MinInt + 1, math.MaxInt}
-
-// parse tells the tree whose text s is.
-func parse(t *testing.T, s string) api.Tree {
-	x, _, errno := shape.Parse(s)
-	if errno != api.OK {
-		t.Fatal(s, errno)
-	}
-	return x
-}
 
 // on tells an operator on two leaves, or on other trees.
 func on(kind int, a, b api.Tree) api.Tree {
@@ -203,7 +193,7 @@ func TestTuplesOfOperators(t *testing.T) {
 		"(0⋈[∧(∅0.0;∅2.0)]2)":                          "∅,7 - ∅",
 	} {
 		for word := range uint64(2) {
-			if got := exec.Tuples(hashing(parse(t, text), word), d); !sample.SameLists(got, sample.Lists(want)) {
+			if got := exec.Tuples(hashing(sample.Parse(text), word), d); !sample.SameLists(got, sample.Lists(want)) {
 				t.Errorf("%s, %d: %v, not %s", text, word, got, want)
 			}
 		}
@@ -223,7 +213,7 @@ func TestTuplesOfTrees(t *testing.T) {
 		"(1⋉[∨(=1.0,2.0;=0.0,'2)](0⋈[∨(∅2.0;∅0.0)]2))": "- 2; - 2",
 	} {
 		for word := range uint64(4) {
-			if got := exec.Tuples(hashing(parse(t, text), word), d); !sample.SameLists(got, sample.Lists(want)) {
+			if got := exec.Tuples(hashing(sample.Parse(text), word), d); !sample.SameLists(got, sample.Lists(want)) {
 				t.Errorf("%s, %d: %v, not %s", text, word, got, want)
 			}
 		}
@@ -286,7 +276,7 @@ func TestHashIsUsed(t *testing.T) {
 		"(1▷[=0.1,1.0](0⋉[=0.0,2.0]2))": n - sixth,
 		"((0⋉[=0.0,2.0]2)⟕[=0.0,1.0]1)": third,
 	} {
-		if got := exec.Tuples(hashing(parse(t, text), 3), d); len(got) != want {
+		if got := exec.Tuples(hashing(sample.Parse(text), 3), d); len(got) != want {
 			t.Errorf("%s: %d tuples, not %d", text, len(got), want)
 		}
 	}
@@ -371,7 +361,7 @@ func TestRunOfColumns(t *testing.T) {
 		"(1⋈[=1.0,3.0]3)":               "",
 	} {
 		for word := range uint64(4) {
-			got, errno := exec.Run(api.Query{Cols: cols, Root: hashing(parse(t, text), word)}, d)
+			got, errno := exec.Run(api.Query{Cols: cols, Root: hashing(sample.Parse(text), word)}, d)
 			if !sample.SameRows(got, sample.Rows(want)) || errno != api.OK {
 				t.Errorf("%s, %d: %v %v, not %s", text, word, got, errno, want)
 			}
@@ -401,7 +391,7 @@ func TestRunOfMany(t *testing.T) {
 
 // The first error of the query comes ahead of that of the data, and no rows come with it.
 func TestRunOfErrors(t *testing.T) {
-	right := api.Query{Cols: []int{1, 1}, Root: parse(t, "(0⋈[=0.0,1.0]1)")}
+	right := api.Query{Cols: []int{1, 1}, Root: sample.Parse("(0⋈[=0.0,1.0]1)")}
 	one := sample.Rows("1")
 	if got, errno := exec.Run(right, api.Data{one, one}); !sample.SameRows(got, sample.Rows("1,1")) || errno != api.OK {
 		t.Error(got, errno)

@@ -1,12 +1,10 @@
 package ident_test
 
 import (
+	"slices"
 	"testing"
 
 	"watersmeet/api"
-	"watersmeet/bag"
-	"watersmeet/check"
-	"watersmeet/exec"
 	"watersmeet/ident"
 	"watersmeet/sample"
 	"watersmeet/shape"
@@ -15,40 +13,18 @@ import (
 
 // P17.3: what is told of right queries is right, and makes the same bag.
 
-// keeps fails unless t, as the Root of q, is right and makes a bag of each of the data; it tells how many rows there are in all.
-func keeps(t *testing.T, q api.Query, x api.Tree, data []api.Data, bags [][]api.Row) int {
+// keeps fails unless x, as the Root of q, is right and makes these bags of the data.
+func keeps(t *testing.T, q api.Query, x api.Tree, data []api.Data, bags [][]api.Row) {
 	t.Helper()
-	other := api.Query{Cols: q.Cols, Root: x}
-	if errno := check.Query(other); errno != api.OK {
-		t.Fatalf("%s of %s: %v", shown(x), shown(q.Root), errno)
+	if fault := sample.Fault(api.Query{Cols: q.Cols, Root: x}, data, bags); fault != "" {
+		t.Fatalf("%s of %s: %s", shown(x), shown(q.Root), fault)
 	}
-	rows := 0
-	for i, d := range data {
-		got, errno := exec.Run(other, d)
-		if errno != api.OK || !bag.Same(got, bags[i]) {
-			t.Fatalf("%s of %s makes %v of %v, %v, not %v", shown(x), shown(q.Root), got, d, errno, bags[i])
-		}
-		rows += len(got)
-	}
-	return rows
 }
 
 // shown tells the text of a tree.
 func shown(x api.Tree) string {
 	text, _ := shape.Print(x)
 	return text
-}
-
-// sampled tells data for q, and the bags that it makes of them.
-func sampled(dice *sample.Dice, q api.Query, times, rows int) ([]api.Data, [][]api.Row) {
-	var data []api.Data
-	var bags [][]api.Row
-	for range times {
-		d := dice.Data(q.Cols, rows)
-		made, _ := exec.Run(q, d)
-		data, bags = append(data, d), append(bags, made)
-	}
-	return data, bags
 }
 
 // Each change, of each two Kinds for which it may be done, at the whole tree.
@@ -65,9 +41,10 @@ func TestDoKeepsTheBag(t *testing.T) {
 				continue
 			}
 			if data == nil {
-				data, bags = sampled(dice, q, 4, 5)
+				data, bags = dice.Bags(q, 4, 5)
 			}
-			if rows := keeps(t, q, x, data, bags); rows > 0 {
+			keeps(t, q, x, data, bags)
+			if len(slices.Concat(bags...)) > 0 {
 				// The operators as the chapter names them: the one that stands above is b in Rotate and Swap.
 				kinds := [3]int{how, q.Root.Kind}
 				switch how {
@@ -100,7 +77,7 @@ func TestWaysKeepTheBag(t *testing.T) {
 	steps := 0
 	for range 2500 {
 		q := dice.Query(7)
-		data, bags := sampled(dice, q, 3, 4)
+		data, bags := dice.Bags(q, 3, 4)
 		x := q.Root
 		for range 8 {
 			l := ident.Ways(x)
@@ -125,7 +102,7 @@ func TestAllKeepTheBag(t *testing.T) {
 	most := 0
 	for range 1000 {
 		q := dice.Query(5)
-		data, bags := sampled(dice, q, 2, 4)
+		data, bags := dice.Bags(q, 2, 4)
 		seen := map[string]bool{shown(q.Root): true}
 		work := []api.Tree{q.Root}
 		for len(work) > 0 && len(seen) < 500 {
@@ -176,7 +153,7 @@ func TestThereAndBack(t *testing.T) {
 // Of three tables, each joined with the next one, changes lead to all eight trees that have no join of the first and the last one alone.
 func TestAllOfThreeTables(t *testing.T) {
 	seen := map[string]bool{}
-	work := []api.Tree{parse(t, "((0⋈[=0.0,1.0]1)⋈[=1.0,2.0]2)")}
+	work := []api.Tree{sample.Parse("((0⋈[=0.0,1.0]1)⋈[=1.0,2.0]2)")}
 	for len(work) > 0 {
 		x := work[0]
 		work = work[1:]

@@ -14,23 +14,11 @@ import (
 	"watersmeet/tree"
 )
 
-// wide are numbers of all sorts: hows, kinds, and some that would be such if they were cut to fewer digits.
-var wide = []int{math.MinInt, math.MinInt + 1, -1 << 32, -257, -256, -4, -3, -2, -1, 0, 1, 2, 3, 4, 5, 6, 7, 63, 64, 128, 255, 256, 257, 258, 1 << 32, 1<<32 + 1, 1<<32 + 2, 1<<32 + 5, math.MaxInt}
-
 // hows are all changes, by the numbers that the chapter says.
 var hows = []int{1, 2, 3, 4, 5}
 
 // signs are those of the Kinds, Inner to Anti, in texts.
 var signs = []string{"⋈", "⟕", "⋉", "▷"}
-
-// parse tells the tree whose text s is.
-func parse(t *testing.T, s string) api.Tree {
-	x, _, errno := shape.Parse(s)
-	if errno != api.OK {
-		t.Fatal(s, errno)
-	}
-	return x
-}
 
 // signed tells a text with the signs of the Kinds a and b in place of these letters.
 func signed(text string, a, b int) string {
@@ -50,10 +38,10 @@ func on(kind int, conj []api.Pred, kids ...api.Tree) api.Tree {
 // hold fails unless the change of the tree of a text is that of another one; none, if that is empty.
 func hold(t *testing.T, how int, from, want string) {
 	t.Helper()
-	got, ok := ident.Do(how, parse(t, from))
+	got, ok := ident.Do(how, sample.Parse(from))
 	wanted := api.Tree{}
 	if want != "" {
-		wanted = parse(t, want)
+		wanted = sample.Parse(want)
 	}
 	if ok != (want != "") || !tree.Same(got, wanted) {
 		text, _ := shape.Print(got)
@@ -175,65 +163,15 @@ func slowWays(t api.Tree) []api.Tree {
 	return l
 }
 
-// dice tells any trees.
-type dice struct{ *sample.Dice }
-
-// wild tells a tree of any sort: each field may be anything, but mostly it has two Kids, and names few tables.
-func (d dice) wild(room int) api.Tree {
-	t := api.Tree{Kind: d.Below(7) - 1, Table: d.Below(6), Hash: d.Below(2) == 0}
-	if d.Below(8) > 0 {
-		t.Kind = api.Inner + d.Below(2)
-	}
-	if d.Below(60) == 0 {
-		t.Kind, t.Table = wide[d.Below(len(wide))], wide[d.Below(len(wide))]
-	}
-	for range d.Below(3) {
-		t.Conj = append(t.Conj, d.pred(2))
-	}
-	if room == 0 || d.Below(8) == 0 {
-		t.Kind = api.Leaf
-		return t
-	}
-	kids := 2
-	if d.Below(12) == 0 {
-		kids = d.Below(4)
-	}
-	for range kids {
-		t.Kids = append(t.Kids, d.wild(room-1))
-	}
-	return t
-}
-
-// pred tells a predicate of any sort.
-func (d dice) pred(room int) api.Pred {
-	term := func() api.Term {
-		if d.Below(3) == 0 {
-			return api.Term{Kind: d.Below(4), Table: d.Below(6), Value: api.Value{Null: d.Below(2) == 0}}
-		}
-		return api.Term{Kind: api.TermCol, Table: d.Below(7) - 1}
-	}
-	p := api.Pred{Kind: d.Below(5), Truth: d.Below(4), Op: d.Below(8), A: term(), B: term()}
-	if d.Below(3) > 0 {
-		p.Kind, p.Op = api.PredCmp, api.Eq
-	}
-	if room > 0 && d.Below(4) == 0 {
-		p.Kind = api.PredAnd + d.Below(3)
-		for range d.Below(3) {
-			p.Parts = append(p.Parts, d.pred(room-1))
-		}
-	}
-	return p
-}
-
 // some are the trees of right queries, and trees of any sort.
 func some() []api.Tree {
-	d := dice{sample.New(17)}
+	d := sample.New(17)
 	var l []api.Tree
 	for range 2000 {
 		l = append(l, d.Query(6).Root)
 	}
 	for range 4000 {
-		l = append(l, d.wild(4))
+		l = append(l, d.Wild(4))
 	}
 	return l
 }
@@ -267,9 +205,9 @@ func TestMay(t *testing.T) {
 }
 
 func TestMayOfWideNumbers(t *testing.T) {
-	for _, how := range wide {
-		for _, a := range wide {
-			for _, b := range wide {
+	for _, how := range sample.Wide() {
+		for _, a := range sample.Wide() {
+			for _, b := range sample.Wide() {
 				if got := ident.May(how, a, b); got != slowMay(how, a, b) {
 					t.Errorf("%d of %d and %d: %t", how, a, b, got)
 				}
@@ -357,7 +295,7 @@ func TestDoOfNames(t *testing.T) {
 		for _, form := range []string{"∅i.3", "=i.0,'1", "<'1,i.0", "⊤;⊤;∅i.0", "∅i.0;⊤", "∧(⊤;∨(⊤;¬∅i.0))"} {
 			for name, l := range map[bool][]string{false: c.not, true: c.may} {
 				for _, i := range l {
-					x := parse(t, strings.ReplaceAll(c.from, "x", strings.ReplaceAll(form, "i", i)))
+					x := sample.Parse(strings.ReplaceAll(c.from, "x", strings.ReplaceAll(form, "i", i)))
 					got, ok := ident.Do(c.how, x)
 					want, _ := slowDo(c.how, x)
 					if ok != name || !tree.Same(got, want) {
@@ -510,14 +448,14 @@ func TestDoOfWrongTrees(t *testing.T) {
 }
 
 func TestDoOfWideNumbers(t *testing.T) {
-	x := parse(t, "((0⋈[=0.0,1.0]1)⋈[=1.0,2.0](2⋈[=2.0,3.0]3))")
-	for _, how := range wide {
+	x := sample.Parse("((0⋈[=0.0,1.0]1)⋈[=1.0,2.0](2⋈[=2.0,3.0]3))")
+	for _, how := range sample.Wide() {
 		_, ok := ident.Do(how, x)
 		if want := 1 <= how && how <= 3; ok != want {
 			t.Errorf("by %d: %t", how, ok)
 		}
 		// As a Kind it is one of an operator, or none.
-		for _, other := range wide {
+		for _, other := range sample.Wide() {
 			y, z := tree.Copy(x), tree.Copy(x)
 			y.Kind, y.Kids[0].Kind = other, how
 			z.Kind, z.Kids[1].Kind = other, how
@@ -601,7 +539,7 @@ func TestWays(t *testing.T) {
 			"((0⋉[=0.0,1.0](1⋈#[=1.0,2.0](3⋈[=2.0,3.0]2)))⟕[=0.0,4.0](4⋉[=4.0,5.0]5))",
 		},
 	} {
-		if got := texts(ident.Ways(parse(t, text))); !slices.Equal(got, want) {
+		if got := texts(ident.Ways(sample.Parse(text))); !slices.Equal(got, want) {
 			t.Errorf("%s: %q, not %q", text, got, want)
 		}
 	}
@@ -609,8 +547,8 @@ func TestWays(t *testing.T) {
 
 // It is gone on within two Kids alone, whatever the tree is; and the tree around stays as it was.
 func TestWaysOfForms(t *testing.T) {
-	x := parse(t, "(0⋈[=0.0,1.0]1)")
-	turned := parse(t, "(1⋈[=0.0,1.0]0)")
+	x := sample.Parse("(0⋈[=0.0,1.0]1)")
+	turned := sample.Parse("(1⋈[=0.0,1.0]0)")
 	for _, kind := range []int{api.Leaf, 5, -1, 257, 1<<32 + 1} {
 		for _, l := range [][]api.Tree{nil, {x}, {x, {}}, {{}, x}, {x, {}, {}}, {x, x, x}} {
 			around := api.Tree{Kind: kind, Table: 6, Hash: true, Kids: l, Conj: []api.Pred{same(8, 9)}}
@@ -647,17 +585,6 @@ func TestWaysBySlowTwin(t *testing.T) {
 // many is how many trees may be nested in one another.
 const many = 1 << 16
 
-// deep tells so many operators nested in one another, each the first, or the second of the Kids, beside a leaf.
-func deep(kind, n, at int, conj ...api.Pred) api.Tree {
-	t := api.Tree{Table: at}
-	for range n {
-		kids := []api.Tree{{Table: 1 - at}, {Table: 1 - at}}
-		kids[at] = t
-		t = on(kind, conj, kids...)
-	}
-	return t
-}
-
 // great is a great tree, by which hows it changes as a whole, and how many ways there are.
 type great struct {
 	t   api.Tree
@@ -679,13 +606,13 @@ func greats() map[string]great {
 	for range many - 2 {
 		far = on(api.Semi, []api.Pred{same(0, 2)}, api.Tree{Table: 0}, far)
 	}
-	beside := on(api.Left, []api.Pred{same(0, 1)}, deep(api.Left, many-3, 0, same(0, 1)), api.Tree{Table: 2})
+	beside := on(api.Left, []api.Pred{same(0, 1)}, sample.Deep(api.Left, many-3, 0, same(0, 1)), api.Tree{Table: 2})
 	return map[string]great{
-		"left deep":        {deep(api.Left, many-1, 0, same(0, 1)), nil, 0},
-		"right deep":       {deep(api.Left, many-1, 1, same(0, 1)), nil, 0},
-		"leaves in leaves": {deep(api.Leaf, many-1, 0, same(0, 1)), nil, 0},
-		"anti, right deep": {deep(api.Anti, many-1, 1), nil, 0},
-		"no Kind":          {deep(5, many-1, 0), nil, 0},
+		"left deep":        {sample.Deep(api.Left, many-1, 0, same(0, 1)), nil, 0},
+		"right deep":       {sample.Deep(api.Left, many-1, 1, same(0, 1)), nil, 0},
+		"leaves in leaves": {sample.Deep(api.Leaf, many-1, 0, same(0, 1)), nil, 0},
+		"anti, right deep": {sample.Deep(api.Anti, many-1, 1), nil, 0},
+		"no Kind":          {sample.Deep(5, many-1, 0), nil, 0},
 		"one Kid each":     {one, nil, 0},
 		"wide":             {on(api.Inner, nil, slices.Repeat([]api.Tree{{}}, many)...), nil, 0},
 		"beside wide ones": {on(api.Inner, nil, on(api.Inner, nil, slices.Repeat([]api.Tree{inner}, many)...), inner), []int{ident.Turn, ident.Back, ident.Exchange}, 4},
@@ -713,7 +640,7 @@ func TestDoOfGreatTrees(t *testing.T) {
 		}
 	}
 	for _, at := range []int{0, 1} {
-		x := deep(api.Inner, many-1, at, same(0, 1))
+		x := sample.Deep(api.Inner, many-1, at, same(0, 1))
 		got, ok := ident.Do(ident.Turn, x)
 		if !ok || !tree.Same(got.Kids[at], x.Kids[1-at]) || !tree.Same(got.Kids[1-at], x.Kids[at]) {
 			t.Errorf("%d: %t", at, ok)

@@ -32,35 +32,13 @@ func told(x api.Tree) []api.Tree {
 	return append(l, ident.Ways(x)...)
 }
 
-// roomy tells t with spare room, in which something stands, behind all its lists.
-func roomy(t api.Tree) api.Tree {
-	t.Conj = roomyPreds(t.Conj)
-	kids := []api.Tree{}
-	for _, kid := range t.Kids {
-		kids = append(kids, roomy(kid))
-	}
-	kids = append(kids, api.Tree{Kind: 78}, api.Tree{Kind: 79})
-	t.Kids = kids[:len(t.Kids)]
-	return t
-}
-
-func roomyPreds(l []api.Pred) []api.Pred {
-	all := []api.Pred{}
-	for _, p := range l {
-		p.Parts = roomyPreds(p.Parts)
-		all = append(all, p)
-	}
-	all = append(all, api.Pred{Kind: 78}, api.Pred{Kind: 79})
-	return all[:len(l)]
-}
-
 func TestLeavesWhatIsHandedIn(t *testing.T) {
 	all := some()[:1000]
 	for _, text := range changeable {
-		all = append(all, parse(t, text))
+		all = append(all, sample.Parse(text))
 	}
 	for _, x := range all {
-		x = roomy(x)
+		x = sample.Roomy(x)
 		before := sample.Opened(x)
 		want := told(x)
 		if !reflect.DeepEqual(sample.Opened(x), before) {
@@ -82,9 +60,9 @@ func TestLeavesWhatIsHandedIn(t *testing.T) {
 // What was told stays as it was, whatever is done to what was handed in.
 func TestKeepsNothing(t *testing.T) {
 	for _, text := range changeable {
-		x := roomy(parse(t, text))
+		x := sample.Roomy(sample.Parse(text))
 		got := told(x)
-		want := told(parse(t, text))
+		want := told(sample.Parse(text))
 		sample.Spoil(x)
 		if !slices.EqualFunc(got, want, tree.Same) {
 			t.Errorf("%s: what is told shares memory with what was handed in", text)
@@ -95,7 +73,7 @@ func TestKeepsNothing(t *testing.T) {
 // No two lists of one answer share memory: each tree within one is spoilt, and all that is not in it stays.
 func TestSharesNothing(t *testing.T) {
 	for _, text := range changeable {
-		x := parse(t, text)
+		x := sample.Parse(text)
 		want := told(x)
 		for i := range want {
 			for at := range sample.Within(&want[i]) {

@@ -60,6 +60,73 @@ func TestTexts(t *testing.T) {
 	}
 }
 
+// Trees of any sort: right ones and others.
+func TestWild(t *testing.T) {
+	dice := sample.New(4)
+	kinds, kids, sizes := map[int]bool{}, map[int]bool{}, map[int]bool{}
+	for range 2000 {
+		x := dice.Wild(3)
+		sizes[tree.Size(x)] = true
+		for part := range tree.Walk(x) {
+			kinds[part.Kind] = true
+			kids[len(part.Kids)] = true
+		}
+	}
+	if len(kinds) < 20 || len(kids) != 4 || len(sizes) < 15 {
+		t.Error(kinds, kids, sizes)
+	}
+	if x := sample.Deep(api.Semi, 2, 1, api.Pred{Truth: 5}); tree.Size(x) != 5 || x.Kids[0].Table != 0 || x.Kids[1].Kids[1].Table != 1 || x.Kids[1].Conj[0].Truth != 5 {
+		t.Error(x)
+	}
+	if wide := sample.Wide(); !slices.IsSorted(wide) || len(slices.Compact(wide)) != len(sample.Wide()) {
+		t.Error(wide)
+	}
+}
+
+// What makes other bags, or is not right, is told.
+func TestBags(t *testing.T) {
+	dice := sample.New(5)
+	q := api.Query{Cols: []int{1, 1}, Root: sample.Parse("(0⋈[=0.0,1.0]1)")}
+	data, bags := dice.Bags(q, 20, 4)
+	for text, right := range map[string]bool{
+		"(0⋈[=0.0,1.0]1)":  true,
+		"(1⋈#[=1.0,0.0]0)": true,
+		"(0⟕[=0.0,1.0]1)":  false,
+		"(0⋈[=0.0,1.1]1)":  false,
+		"(0⋈[=0.0,1.0]2)":  false,
+	} {
+		if fault := sample.Fault(api.Query{Cols: q.Cols, Root: sample.Parse(text)}, data, bags); (fault == "") != right {
+			t.Errorf("%s: %q", text, fault)
+		}
+	}
+	if len(data) != 20 || len(bags) != 20 || len(slices.Concat(bags...)) == 0 {
+		t.Error(data, bags)
+	}
+}
+
+// A text that is none is not passed over.
+func TestParse(t *testing.T) {
+	defer func() {
+		if recover() == nil {
+			t.Error("a text that is none is a tree")
+		}
+	}()
+	if x := sample.Parse("(0⟕[=0.0,1.0]1)"); x.Kind != api.Left || x.Kids[1].Table != 1 {
+		t.Error(x)
+	}
+	sample.Parse("(0⟕1)")
+}
+
+// A tree with spare room is the same, and what stands in that room is seen when it is opened.
+func TestRoomy(t *testing.T) {
+	x := sample.Parse("((0⟕[∧(=0.0,1.0;⊤)]1)⋈[=0.0,2.0]2)")
+	y := sample.Roomy(x)
+	opened := sample.Opened(y)
+	if !tree.Same(x, y) || len(opened.Kids) < 3 || len(opened.Conj) < 2 || len(opened.Kids[0].Conj[0].Parts) < 3 || len(opened.Kids[1].Kids) == 0 {
+		t.Error(opened)
+	}
+}
+
 // A tree is opened with what stands in its spare room, and spoilt there, too; what was opened stays.
 func TestTrees(t *testing.T) {
 	parts := []api.Pred{{Truth: 1}, {Truth: 2}}
